@@ -1,0 +1,1 @@
+"""Lists of signs: their names, shapes and sounds."""

@@ -1,0 +1,59 @@
+"""The examples of the document's run, and its ways to get it wrong."""
+
+from tests.helpers import CallCase
+
+RUN = "sign A1 a ba/##./#.#/sign A2/#/"
+
+
+class Run(CallCase):
+    def test_judge(self):
+        self.assert_right(RUN, 2)
+
+    def test_find(self):
+        self.assertEqual(self.found(RUN, "A2"), [1])
+        self.assertEqual(self.found(RUN, "A1"), [0])
+        self.assertEqual(self.found(RUN, "A02"), [-5])
+
+    def test_shapes(self):
+        for shape in ("###/#.#/###/", "#.#/.../#.#/", ".#./#.#/.#./"):
+            self.assert_right("sign A1/" + shape, 1)
+
+    def test_faults(self):
+        self.assert_fault("sign A2/#/sign A1/#/", 2, 15)
+        self.assert_fault("sign A1/", 1, 8)
+        self.assert_fault("sign A1/##./##./", 4, 0)
+        self.assert_fault("", 1, 0)
+        self.assert_fault("sign A1/#", 1, 9)
+
+
+class WaysToGetItWrong(CallCase):
+    def test_a_needless_0(self):
+        self.assert_fault("sign A01/#/", 1, 5)
+
+    def test_names_in_order_of_bytes(self):
+        self.assert_right("sign A2/#/sign A10/#/", 2)
+        self.assert_fault("sign A10/#/sign A2/#/", 2, 16)
+
+    def test_a_kind_before_none(self):
+        self.assert_right("sign A1/#/sign A1a/#/", 2)
+        self.assert_fault("sign A1a/#/sign A1/#/", 2, 16)
+
+    def test_a_sound_twice(self):
+        self.assert_fault("sign A1 a ba a/#/", 2, 13)
+
+    def test_an_empty_last_column(self):
+        self.assert_fault("sign A1/#./#./", 4, 0)
+
+    def test_a_33rd_row_is_told_at_the_row(self):
+        self.assert_fault("sign A1/" + "#/" * 33, 3, 8 + 64)
+
+    def test_a_name_is_not_found_by_its_beginning(self):
+        self.assertEqual(self.found("sign A12/#/", "A1"), [-5])
+        self.assertEqual(self.found("sign A1/#/", "A12"), [-5])
+
+    def test_a_last_line_without_its_end(self):
+        self.assert_fault("sign A1/#/#", 1, 11)
+
+    def test_the_sign_before_comes_before_the_sign_line(self):
+        self.assert_fault("sign A1/#./sign A0/#/", 4, 0)
+        self.assert_fault("sign A1/sign A0/#/", 1, 8)
