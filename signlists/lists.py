@@ -1,33 +1,74 @@
 """The calls: each takes a list's text and answers a list of whole numbers."""
 
-from signlists.reading import read_list
+from signlists.reading import MOST_BYTES, read_list
+from signlists.shapes import count_holes, count_ink, count_pieces
 
-MOST_BYTES = 1048576
-
+NOT_REFUSED = 0
 TOO_LONG = -2
+NO_SUCH = -4
 NOT_THERE = -5
 NO_LIST = -6
 
 
 def judge(t):
     """Answer how many signs the list has, or the text's first fault."""
-    if len(t) > MOST_BYTES:
-        return [TOO_LONG]
     reading = read_list(t)
-    if reading.fault is not None:
-        return [NO_LIST, reading.fault[0], reading.fault[1]]
+    refusal = text_refusal(reading)
+    if refusal == NO_LIST:
+        return [refusal, reading.fault[0], reading.fault[1]]
+    if refusal != NOT_REFUSED:
+        return [refusal]
     return [len(reading.signs)]
 
 
 def find(t, s):
     """Answer the number of the sign whose name s is."""
-    if len(t) > MOST_BYTES or len(s) > MOST_BYTES:
+    if len(s) > MOST_BYTES:
         return [TOO_LONG]
     reading = read_list(t)
-    if reading.fault is not None:
-        return [NO_LIST]
+    refusal = text_refusal(reading)
+    if refusal != NOT_REFUSED:
+        return [refusal]
     # Every name has one spelling, so a text that is no name equals none of them.
     for number, sign in enumerate(reading.signs):
         if sign.name == s:
             return [number]
     return [NOT_THERE]
+
+
+def name(k, t):
+    """Answer how many bytes the name of sign k has, and they."""
+    reading = read_list(t)
+    refusal = sign_refusal(reading, k)
+    if refusal != NOT_REFUSED:
+        return [refusal]
+    sign = reading.signs[k]
+    return [len(sign.name)] + sign.name
+
+
+def size(k, t):
+    """Answer 0, and of sign k: width, height, cells with ink, sounds, pieces, holes."""
+    reading = read_list(t)
+    refusal = sign_refusal(reading, k)
+    if refusal != NOT_REFUSED:
+        return [refusal]
+    sign = reading.signs[k]
+    rows = sign.rows
+    return [0, len(rows[0]), len(rows), count_ink(rows), len(sign.sounds), count_pieces(rows), count_holes(rows)]
+
+
+def text_refusal(reading):
+    """Give the refusal of the text that was read."""
+    if reading.too_long:
+        return TOO_LONG
+    if reading.fault is not None:
+        return NO_LIST
+    return NOT_REFUSED
+
+
+def sign_refusal(reading, k):
+    """Give the refusal of the text that was read, or else that of a number k that none of its signs has."""
+    refusal = text_refusal(reading)
+    if refusal == NOT_REFUSED and k >= len(reading.signs):
+        return NO_SUCH
+    return refusal

@@ -12,6 +12,7 @@ SMALL_A = 97
 SMALL_Z = 122
 SIGN_WORD = (115, 105, 103, 110)
 
+MOST_BYTES = 1048576
 MOST_SIGNS = 512
 MOST_SOUNDS = 8
 MOST_LETTERS = 8
@@ -28,23 +29,27 @@ WRONG_WIDTH = 5
 class Sign:
     """A sign as far as it has been read; place is where its sign line begins."""
 
-    def __init__(self, place, name):
+    def __init__(self, place, name, sounds):
         self.place = place
         self.name = name
+        self.sounds = sounds
         self.rows = []
 
 
 class Reading:
-    """What a text tells: its signs, and its first fault as (kind, place), or None."""
+    """What a text tells: its signs, and its first fault as (kind, place), or None; nothing if it is too long."""
 
-    def __init__(self):
+    def __init__(self, too_long):
+        self.too_long = too_long
         self.signs = []
         self.fault = None
 
 
 def read_list(t):
-    """Read the text up to its end or its first fault."""
-    reading = Reading()
+    """Read the text up to its end or its first fault, unless it is too long."""
+    reading = Reading(len(t) > MOST_BYTES)
+    if reading.too_long:
+        return reading
     start = 0
     while start < len(t):
         end = line_end(t, start)
@@ -90,7 +95,8 @@ def take_sign_line(words, start, end, signs):
     """Add the line's sign to signs; give the line's fault, or None."""
     fault = sign_line_fault(words, start, end, signs)
     if fault is None:
-        signs.append(Sign(start, words[1][1]))
+        sounds = [word[1] for word in words[2:]]
+        signs.append(Sign(start, words[1][1], sounds))
     return fault
 
 

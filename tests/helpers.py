@@ -2,7 +2,7 @@
 
 import unittest
 
-from signlists.lists import find, judge
+from signlists.lists import find, judge, name, size
 
 # Names in order, with neighbours that differ in each of the four parts.
 RISING = [
@@ -33,25 +33,43 @@ class Unchangeable(list):
     append = clear = extend = insert = pop = remove = reverse = sort = refuse
 
 
+def as_kind(kind, arguments):
+    """Give the arguments with a new list of that kind for each text."""
+    return [one if isinstance(one, int) else kind(one) for one in arguments]
+
+
 class CallCase(unittest.TestCase):
-    def call(self, function, *texts):
+    def call(self, function, *written):
         """Call with arguments that must stay as they are; the answer must be a list of plain ints."""
-        handed_in = [Unchangeable(one) for one in texts]
+        arguments = [text(one) if isinstance(one, str) else one for one in written]
+        handed_in = as_kind(Unchangeable, arguments)
         answer = function(*handed_in)
-        for one, before in zip(handed_in, texts):
-            self.assertEqual(list(one), list(before))
-        plain = [list(one) for one in texts]
+        self.assertEqual(as_kind(list, handed_in), as_kind(list, arguments))
+        plain = as_kind(list, arguments)
         self.assertEqual(function(*plain), answer)
-        self.assertEqual(plain, [list(one) for one in texts])
+        self.assertEqual(plain, as_kind(list, arguments))
         self.assertIs(type(answer), list)
         self.assertEqual({type(one) for one in answer}, {int})
         return answer
 
     def judged(self, t):
-        return self.call(judge, text(t) if isinstance(t, str) else t)
+        return self.call(judge, t)
 
     def found(self, t, s):
-        return self.call(find, text(t) if isinstance(t, str) else t, text(s) if isinstance(s, str) else s)
+        return self.call(find, t, s)
+
+    def named(self, k, t):
+        return self.call(name, k, t)
+
+    def sized(self, k, t):
+        return self.call(size, k, t)
+
+    def assert_ink_pieces_holes(self, shape, ink, pieces, holes):
+        """Check the size of a shape that is written as its rows, by itself and behind another sign."""
+        rows = shape.split("/")[:-1]
+        expected = [0, len(rows[0]), len(rows), ink, 0, pieces, holes]
+        self.assertEqual(self.sized(0, "sign A1/" + shape), expected, shape)
+        self.assertEqual(self.sized(1, "sign A1 a/##/sign A2/" + shape), expected, shape)
 
     def assert_right(self, t, signs):
         self.assertEqual(self.judged(t), [signs], t)

@@ -1,6 +1,6 @@
 """The examples of the document's run, and its ways to get it wrong."""
 
-from tests.helpers import CallCase
+from tests.helpers import CallCase, text
 
 RUN = "sign A1 a ba/##./#.#/sign A2/#/"
 
@@ -14,9 +14,20 @@ class Run(CallCase):
         self.assertEqual(self.found(RUN, "A1"), [0])
         self.assertEqual(self.found(RUN, "A02"), [-5])
 
+    def test_name(self):
+        self.assertEqual(self.named(0, RUN), [2] + text("A1"))
+        self.assertEqual(self.named(1, RUN), [2] + text("A2"))
+
+    def test_size(self):
+        self.assertEqual(self.sized(0, RUN), [0, 3, 2, 4, 2, 1, 0])
+        self.assertEqual(self.sized(1, RUN), [0, 1, 1, 1, 0, 1, 0])
+
     def test_shapes(self):
         for shape in ("###/#.#/###/", "#.#/.../#.#/", ".#./#.#/.#./"):
             self.assert_right("sign A1/" + shape, 1)
+        self.assert_ink_pieces_holes("###/#.#/###/", ink=8, pieces=1, holes=1)
+        self.assert_ink_pieces_holes("#.#/.../#.#/", ink=4, pieces=4, holes=0)
+        self.assert_ink_pieces_holes(".#./#.#/.#./", ink=4, pieces=1, holes=1)
 
     def test_faults(self):
         self.assert_fault("sign A2/#/sign A1/#/", 2, 15)
@@ -46,6 +57,18 @@ class WaysToGetItWrong(CallCase):
 
     def test_a_33rd_row_is_told_at_the_row(self):
         self.assert_fault("sign A1/" + "#/" * 33, 3, 8 + 64)
+
+    def test_pieces_by_sides_alone(self):
+        self.assert_ink_pieces_holes("#./.#/", ink=2, pieces=1, holes=0)
+        self.assert_ink_pieces_holes(".#/#./", ink=2, pieces=1, holes=0)
+
+    def test_holes_by_corners_too(self):
+        self.assert_ink_pieces_holes("####/#.##/##.#/####/", ink=14, pieces=1, holes=2)
+        self.assert_ink_pieces_holes(".##/#.#/###/", ink=7, pieces=1, holes=1)
+
+    def test_the_outside_counted_as_a_hole(self):
+        self.assert_ink_pieces_holes("#/", ink=1, pieces=1, holes=0)
+        self.assert_ink_pieces_holes("###/#../###/", ink=7, pieces=1, holes=0)
 
     def test_a_name_is_not_found_by_its_beginning(self):
         self.assertEqual(self.found("sign A12/#/", "A1"), [-5])
