@@ -1,9 +1,11 @@
 """The calls: each takes a list's text and answers a list of whole numbers."""
 
-from signlists.reading import MOST_BYTES, read_list
+from signlists.motions import MOTIONS, move
+from signlists.reading import LINE_FEED, MOST_BYTES, read_list
 from signlists.shapes import count_holes, count_ink, count_pieces
 
 NOT_REFUSED = 0
+NO_MOTION = -1
 TOO_LONG = -2
 NO_SUCH = -4
 NOT_THERE = -5
@@ -42,8 +44,7 @@ def name(k, t):
     refusal = sign_refusal(reading, k)
     if refusal != NOT_REFUSED:
         return [refusal]
-    sign = reading.signs[k]
-    return [len(sign.name)] + sign.name
+    return counted(reading.signs[k].name)
 
 
 def size(k, t):
@@ -57,6 +58,43 @@ def size(k, t):
     return [0, len(rows[0]), len(rows), count_ink(rows), len(sign.sounds), count_pieces(rows), count_holes(rows)]
 
 
+def sound(k, i, t):
+    """Answer how many letters sound i of sign k has, and they."""
+    reading = read_list(t)
+    refusal = sign_refusal(reading, k)
+    if refusal != NOT_REFUSED:
+        return [refusal]
+    sounds = reading.signs[k].sounds
+    if i >= len(sounds):
+        return [NO_SUCH]
+    return counted(sounds[i])
+
+
+def moved(k, m, t):
+    """Answer how many bytes the rows of sign k's shape moved by motion m have in a list's text, and they."""
+    reading = read_list(t)
+    refusal = motion_refusal(reading, m)
+    if refusal == NOT_REFUSED:
+        refusal = sign_refusal(reading, k)
+    if refusal != NOT_REFUSED:
+        return [refusal]
+    return counted(text_of_rows(move(reading.signs[k].rows, m)))
+
+
+def counted(values):
+    """Give how many values there are, and they."""
+    return [len(values)] + values
+
+
+def text_of_rows(rows):
+    """Give the rows as they stand in a list's text."""
+    written = []
+    for row in rows:
+        written.extend(row)
+        written.append(LINE_FEED)
+    return written
+
+
 def text_refusal(reading):
     """Give the refusal of the text that was read."""
     if reading.too_long:
@@ -64,6 +102,14 @@ def text_refusal(reading):
     if reading.fault is not None:
         return NO_LIST
     return NOT_REFUSED
+
+
+def motion_refusal(reading, m):
+    """Give the refusal of the text that was read, or else that of a number m that no motion has."""
+    refusal = text_refusal(reading)
+    if refusal == NOT_REFUSED and m >= MOTIONS:
+        return NO_MOTION
+    return refusal
 
 
 def sign_refusal(reading, k):

@@ -2,13 +2,19 @@
 
 import unittest
 
-from signlists.lists import find, judge, name, size
+from signlists.lists import find, judge, moved, name, size, sound
 
 # Names in order, with neighbours that differ in each of the four parts.
 RISING = [
     "A1", "A1a", "A1b", "A1z", "A2", "A9z", "A10", "A99", "A100", "A999", "A999z",
     "Aa1", "Aa1a", "Aa2", "Aa10", "Ab1", "Ab1a", "Az999z", "B1", "B2", "Ba1", "Z999", "Za1", "Zz999z",
 ]
+
+LAST = 4294967295
+NO_LISTS = (
+    "", "/", "x", "#/", "sign", "sign A1", "sign A1/", "sign A1/#", "sign A1/#/#", "sign A1/./", "sign A01/#/",
+    "sign A1/#/sign A1/#/", "sign A1 a a/#/", "sign A1/##/#/", "sign A1/#/sign A2/", "sign A1/#/sign A2/./",
+)
 
 
 def text(written):
@@ -63,6 +69,12 @@ class CallCase(unittest.TestCase):
 
     def sized(self, k, t):
         return self.call(size, k, t)
+
+    def sounded(self, k, i, t):
+        return self.call(sound, k, i, t)
+
+    def moved(self, k, m, t):
+        return self.call(moved, k, m, t)
 
     def assert_ink_pieces_holes(self, shape, ink, pieces, holes):
         """Check the size of a shape that is written as its rows, by itself and behind another sign."""

@@ -1,14 +1,9 @@
 """name: the bytes of a sign's name, and what is refused; together with find."""
 
 from signlists.lists import find, judge, name, size
-from tests.helpers import CallCase, RISING, many_signs, text
+from tests.helpers import CallCase, LAST, NO_LISTS, RISING, many_signs, text
 
-LAST = 4294967295
 LIST = "".join(f"sign {one} a ba/#/" for one in RISING)
-NO_LISTS = (
-    "", "/", "x", "#/", "sign", "sign A1", "sign A1/", "sign A1/#", "sign A1/#/#", "sign A1/./", "sign A01/#/",
-    "sign A1/#/sign A1/#/", "sign A1 a a/#/", "sign A1/##/#/", "sign A1/#/sign A2/", "sign A1/#/sign A2/./",
-)
 
 
 class Name(CallCase):

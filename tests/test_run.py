@@ -22,6 +22,14 @@ class Run(CallCase):
         self.assertEqual(self.sized(0, RUN), [0, 3, 2, 4, 2, 1, 0])
         self.assertEqual(self.sized(1, RUN), [0, 1, 1, 1, 0, 1, 0])
 
+    def test_sound(self):
+        self.assertEqual(self.sounded(0, 0, RUN), [1] + text("a"))
+        self.assertEqual(self.sounded(0, 1, RUN), [2] + text("ba"))
+        self.assertEqual(self.sounded(1, 0, RUN), [-4])
+
+    def test_moved(self):
+        self.assertEqual(self.moved(0, 1, RUN), [9] + text("##/.#/#./"))
+
     def test_shapes(self):
         for shape in ("###/#.#/###/", "#.#/.../#.#/", ".#./#.#/.#./"):
             self.assert_right("sign A1/" + shape, 1)
@@ -57,6 +65,14 @@ class WaysToGetItWrong(CallCase):
 
     def test_a_33rd_row_is_told_at_the_row(self):
         self.assert_fault("sign A1/" + "#/" * 33, 3, 8 + 64)
+
+    def test_turned_against_the_clock(self):
+        self.assertEqual(self.moved(0, 1, "sign A1/##/#./"), [6] + text("##/.#/"))
+        self.assertEqual(self.moved(0, 3, "sign A1/##/#./"), [6] + text("#./##/"))
+
+    def test_mirrored_behind_the_turns(self):
+        self.assertEqual(self.moved(0, 5, "sign A1/##/#./"), [6] + text(".#/##/"))
+        self.assertEqual(self.moved(0, 7, "sign A1/##/#./"), [6] + text("##/#./"))
 
     def test_pieces_by_sides_alone(self):
         self.assert_ink_pieces_holes("#./.#/", ink=2, pieces=1, holes=0)

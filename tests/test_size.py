@@ -4,21 +4,8 @@ import random
 
 from signlists.lists import size
 from tests import counting
+from tests.drawing import drawn, is_shape, written
 from tests.helpers import CallCase, text
-
-
-def drawn(width, height, has_ink):
-    """Give the rows of a shape, with ink in the cells (x, y) for which has_ink tells so."""
-    return ["".join("#" if has_ink(x, y) else "." for x in range(width)) for y in range(height)]
-
-
-def written(rows):
-    return "".join(row + "/" for row in rows)
-
-
-def is_shape(rows):
-    columns = ["".join(column) for column in zip(*rows)]
-    return all("#" in side for side in (rows[0], rows[-1], columns[0], columns[-1]))
 
 
 def winding(x, y):
@@ -172,16 +159,3 @@ class SecondCounting(CallCase):
                 rows = drawn(width, height, lambda x, y: source.random() < share)
                 if is_shape(rows):
                     self.check(rows)
-
-
-class Motions(CallCase):
-    def test_ink_pieces_and_holes_stay(self):
-        source = random.Random(4)
-        for _ in range(200):
-            rows = drawn(source.randint(2, 9), source.randint(2, 9), lambda x, y: source.random() < 0.65)
-            if is_shape(rows):
-                mirrored = [row[::-1] for row in rows]
-                turned = ["".join(column) for column in zip(*rows[::-1])]
-                told = size(0, text("sign A1/" + written(rows)))
-                self.assertEqual(size(0, text("sign A1/" + written(mirrored))), told)
-                self.assertEqual(size(0, text("sign A1/" + written(turned))), [0, told[2], told[1]] + told[3:])
