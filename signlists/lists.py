@@ -1,6 +1,6 @@
 """The calls: each takes a list's text and answers a list of whole numbers."""
 
-from signlists.motions import MOTIONS, move
+from signlists.motions import MOTIONS, move, move_by_each
 from signlists.reading import LINE_FEED, MOST_BYTES, read_list
 from signlists.shapes import count_holes, count_ink, count_pieces
 
@@ -79,6 +79,33 @@ def moved(k, m, t):
     if refusal != NOT_REFUSED:
         return [refusal]
     return counted(text_of_rows(move(reading.signs[k].rows, m)))
+
+
+def alike(i, j, t):
+    """Answer the least motion that takes sign i's shape to sign j's."""
+    reading = read_list(t)
+    # If one of the two numbers is no sign's, the greater one is none.
+    refusal = sign_refusal(reading, max(i, j))
+    if refusal != NOT_REFUSED:
+        return [refusal]
+    wanted = reading.signs[j].rows
+    for motion, rows in enumerate(move_by_each(reading.signs[i].rows)):
+        if rows == wanted:
+            return [motion]
+    return [NOT_THERE]
+
+
+def next_of(i, t):
+    """Answer the least number above i of a sign alike to sign i."""
+    reading = read_list(t)
+    refusal = sign_refusal(reading, i)
+    if refusal != NOT_REFUSED:
+        return [refusal]
+    shapes = move_by_each(reading.signs[i].rows)
+    for number in range(i + 1, len(reading.signs)):
+        if reading.signs[number].rows in shapes:
+            return [number]
+    return [NOT_THERE]
 
 
 def counted(values):

@@ -4,6 +4,11 @@ MOTIONS = 8
 QUARTERS = 4
 
 
+def move_by_each(rows):
+    """Give the rows of the shape moved by each motion, from 0 on."""
+    return [move(rows, motion) for motion in range(MOTIONS)]
+
+
 def move(rows, motion):
     """Give the rows of the shape moved by this motion, from 0 to 7."""
     shape = rows

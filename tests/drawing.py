@@ -1,5 +1,18 @@
 """Shapes for the tests, as rows that are written texts of # and . here, and a second moving of them, cell by cell."""
 
+# Shapes that no motion takes to themselves, each with its rows by the motions 0 to 7.
+DUE = (
+    ("##./#.#/", "##/.#/#./", "#.#/.##/", ".#/#./##/", ".##/#.#/", "#./.#/##/", "#.#/##./", "##/#./.#/"),
+    (
+        "###/#../##./#../", "####/.#.#/...#/", "..#/.##/..#/###/", "#.../#.#./####/",
+        "###/..#/.##/..#/", "...#/.#.#/####/", "#../##./#../###/", "####/#.#./#.../",
+    ),
+    (
+        "##./#../.##/", ".##/#.#/#../", "##./..#/.##/", "..#/#.#/##./",
+        ".##/..#/##./", "#../#.#/.##/", ".##/#../##./", "##./#.#/..#/",
+    ),
+)
+
 
 def drawn(width, height, has_ink):
     """Give the rows of a shape, with ink in the cells (x, y) for which has_ink tells so."""
@@ -8,6 +21,16 @@ def drawn(width, height, has_ink):
 
 def written(rows):
     return "".join(row + "/" for row in rows)
+
+
+def rows_of(shape):
+    """Give the rows of a shape that is written with a / behind each of them."""
+    return shape[:-1].split("/")
+
+
+def listed(shapes):
+    """Give the text of a list whose signs have these shapes, each written with a / behind each row."""
+    return "".join(f"sign A{number + 1}/{shape}" for number, shape in enumerate(shapes))
 
 
 def is_shape(rows):
@@ -33,6 +56,12 @@ def moved(rows, m):
         ink = {(height - 1 - y, x) for x, y in ink}
         width, height = height, width
     return drawn(width, height, lambda x, y: (x, y) in ink)
+
+
+def least_motion(shape, other):
+    """Give the least motion that takes the first shape to the other, both written; None if none does."""
+    motions = [m for m in range(8) if written(moved(rows_of(shape), m)) == other]
+    return min(motions, default=None)
 
 
 def both(first, second):

@@ -2,7 +2,8 @@
 
 import unittest
 
-from signlists.lists import find, judge, moved, name, size, sound
+from signlists.lists import alike, find, judge, moved, name, next_of, size, sound
+from tests.drawing import rows_of
 
 # Names in order, with neighbours that differ in each of the four parts.
 RISING = [
@@ -76,9 +77,15 @@ class CallCase(unittest.TestCase):
     def moved(self, k, m, t):
         return self.call(moved, k, m, t)
 
+    def likened(self, i, j, t):
+        return self.call(alike, i, j, t)
+
+    def following(self, i, t):
+        return self.call(next_of, i, t)
+
     def assert_ink_pieces_holes(self, shape, ink, pieces, holes):
         """Check the size of a shape that is written as its rows, by itself and behind another sign."""
-        rows = shape.split("/")[:-1]
+        rows = rows_of(shape)
         expected = [0, len(rows[0]), len(rows), ink, 0, pieces, holes]
         self.assertEqual(self.sized(0, "sign A1/" + shape), expected, shape)
         self.assertEqual(self.sized(1, "sign A1 a/##/sign A2/" + shape), expected, shape)

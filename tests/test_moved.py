@@ -4,21 +4,8 @@ import random
 
 from signlists.lists import judge, moved, size, sound
 from tests import drawing
-from tests.drawing import both, drawn, drawn_by_lot, is_shape, undoing, written
+from tests.drawing import DUE, both, drawn, drawn_by_lot, is_shape, rows_of, undoing, written
 from tests.helpers import CallCase, LAST, NO_LISTS, many_signs, text
-
-# Shapes that no motion takes to themselves, each with its rows by the motions 0 to 7.
-DUE = (
-    ("##./#.#/", "##/.#/#./", "#.#/.##/", ".#/#./##/", ".##/#.#/", "#./.#/##/", "#.#/##./", "##/#./.#/"),
-    (
-        "###/#../##./#../", "####/.#.#/...#/", "..#/.##/..#/###/", "#.../#.#./####/",
-        "###/..#/.##/..#/", "...#/.#.#/####/", "#../##./#../###/", "####/#.#./#.../",
-    ),
-    (
-        "##./#../.##/", ".##/#.#/#../", "##./..#/.##/", "..#/#.#/##./",
-        ".##/..#/##./", "#../#.#/.##/", ".##/#../##./", "##./#.#/..#/",
-    ),
-)
 
 
 def lone_cell_at_the_right(x, y):
@@ -125,7 +112,7 @@ class Moved(MovedCase):
 class MotionsOneAfterAnother(MovedCase):
     def shapes(self):
         source = random.Random(6)
-        by_hand = [due[0][:-1].split("/") for due in DUE]
+        by_hand = [rows_of(due[0]) for due in DUE]
         return by_hand + [drawn_by_lot(source, most, 0.6) for most in (2, 3, 5, 8, 12, 32) for _ in range(4)]
 
     def test_each_is_undone_by_one(self):
@@ -135,7 +122,7 @@ class MotionsOneAfterAnother(MovedCase):
 
     def test_of_a_shape_that_none_takes_to_itself_no_other_one_undoes(self):
         for due in DUE:
-            rows = due[0][:-1].split("/")
+            rows = rows_of(due[0])
             for m in range(8):
                 there = self.moved_rows(rows, m)
                 self.assertEqual([n for n in range(8) if self.moved_rows(there, n) == rows], [undoing(m)])

@@ -30,6 +30,11 @@ class Run(CallCase):
     def test_moved(self):
         self.assertEqual(self.moved(0, 1, RUN), [9] + text("##/.#/#./"))
 
+    def test_alike(self):
+        self.assertEqual(self.likened(0, 1, RUN), [-5])
+        self.assertEqual(self.likened(0, 0, RUN), [0])
+        self.assertEqual(self.following(0, RUN), [-5])
+
     def test_shapes(self):
         for shape in ("###/#.#/###/", "#.#/.../#.#/", ".#./#.#/.#./"):
             self.assert_right("sign A1/" + shape, 1)
@@ -69,10 +74,19 @@ class WaysToGetItWrong(CallCase):
     def test_turned_against_the_clock(self):
         self.assertEqual(self.moved(0, 1, "sign A1/##/#./"), [6] + text("##/.#/"))
         self.assertEqual(self.moved(0, 3, "sign A1/##/#./"), [6] + text("#./##/"))
+        self.assertEqual(self.likened(0, 1, "sign A1/##/#./sign A2/##/.#/"), [1])
+        self.assertEqual(self.likened(1, 0, "sign A1/##/#./sign A2/##/.#/"), [3])
 
     def test_mirrored_behind_the_turns(self):
         self.assertEqual(self.moved(0, 5, "sign A1/##/#./"), [6] + text(".#/##/"))
         self.assertEqual(self.moved(0, 7, "sign A1/##/#./"), [6] + text("##/#./"))
+        self.assertEqual(self.likened(0, 1, "sign A1/##./#.#/sign A2/#./.#/##/"), [5])
+        self.assertEqual(self.likened(0, 1, "sign A1/##./#.#/sign A2/##/#./.#/"), [7])
+
+    def test_the_last_motion_told(self):
+        self.assertEqual(self.likened(0, 1, "sign A1/##/sign A2/#/#/"), [1])
+        self.assertEqual(self.likened(0, 1, "sign A1/##./.##/sign A2/.##/##./"), [4])
+        self.assertEqual(self.likened(0, 0, "sign A1/##/"), [0])
 
     def test_pieces_by_sides_alone(self):
         self.assert_ink_pieces_holes("#./.#/", ink=2, pieces=1, holes=0)
